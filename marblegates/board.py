@@ -4,6 +4,9 @@ BUILD = 0
 DROP = 1
 MANY = 2
 RUN = 3
+BACK = 4
+TILT = 5
+STATE = 6
 
 NOT_AS_TOLD = -22
 HAS_GEARED = -33
@@ -136,22 +139,24 @@ def let_go(machine, entry):
     return place - FIRST_EXIT
 
 
+def tilt_of(machine, number):
+    return machine.tilts >> number & 1
+
+
 def pass_gate(machine, number, arrived):
     """All marbles that arrived at one gate, which is not geared, go on to its two sides."""
     here = arrived[number]
-    side = machine.tilts >> number & 1
+    side = tilt_of(machine, number)
     if machine.kinds[number] == STAYS:
         ahead = here
     else:
         ahead = (here + 1) // 2
     arrived[machine.sides[number][side]] += ahead
     arrived[machine.sides[number][1 - side]] += here - ahead
-    if here % 2 == 1:
-        machine.tilts = machine.tilts ^ machine.flips[number]
 
 
-def let_go_many(machine, entry, count):
-    """So many marbles fall from an entry, where nothing is geared: how many come out of each exit.
+def arrivals(machine, entry, count):
+    """How many of so many marbles from an entry would come by each place, where nothing is geared.
 
     A gate's marbles all come from gates with lower numbers, and which of them comes first
     makes no difference, so each gate is gone through once with all of its marbles.
@@ -160,7 +165,35 @@ def let_go_many(machine, entry, count):
     arrived[machine.entries[entry]] = count
     for number in range(len(machine.kinds)):
         pass_gate(machine, number, arrived)
+    return arrived
+
+
+def let_go_many(machine, entry, count):
+    """So many marbles fall from an entry, where nothing is geared: how many come out of each exit."""
+    arrived = arrivals(machine, entry, count)
+    for number in range(len(machine.kinds)):
+        if arrived[number] % 2 == 1:
+            machine.tilts = machine.tilts ^ machine.flips[number]
     return arrived[FIRST_EXIT:]
+
+
+def halvings(number):
+    """How often a number above 0 can be halved before it is odd."""
+    return (number & -number).bit_length() - 1
+
+
+def doublings_till_back(machine, entry):
+    """The least k so that 2 to the k marbles from an entry leave all gates as they are.
+
+    A gate that tilts is as it was when an even number came by, and each of its sides has had
+    just half of them then. As there are 64 gates at most, 2 to the 64 marbles are an even
+    number at each. With one doubling fewer half as many come by: so a gate whose marbles can
+    be halved h times asks for 64 + 1 - h doublings, and the gate that asks for most decides.
+    """
+    arrived = arrivals(machine, entry, 1 << MOST_GATES)
+    tilting = [number for number, kind in enumerate(machine.kinds) if kind == TILTS]
+    asked = [MOST_GATES + 1 - halvings(arrived[number]) for number in tilting if arrived[number] > 0]
+    return max(asked, default=0)
 
 
 def build(board, numbers, entries, levers):
@@ -200,6 +233,28 @@ def run(board, entry, most):
     return [gone] + came_out + [upcoming]
 
 
+def back(board, entry):
+    if not is_entry(entry):
+        return [NOT_AS_TOLD]
+    if has_geared(board.machine):
+        return [HAS_GEARED]
+    return [doublings_till_back(board.machine, entry)]
+
+
+def tilt(board, number, side):
+    machine = board.machine
+    if number >= len(machine.kinds) or side > RIGHT:
+        return [NOT_AS_TOLD]
+    before = tilt_of(machine, number)
+    # Told by hand, a gate is tilted alone, whatever its kind: its set follows marbles only.
+    machine.tilts = machine.tilts ^ (before ^ side) << number
+    return [before]
+
+
+def state(board):
+    return [len(board.machine.kinds), board.machine.tilts]
+
+
 def answer_build(board, reader):
     gates = reader.take_row()
     entries = reader.take_row()
@@ -224,6 +279,17 @@ def answer_run(board, reader):
     return run(board, entry, most)
 
 
+def answer_back(board, reader):
+    entry = reader.take_number()
+    return back(board, entry)
+
+
+def answer_tilt(board, reader):
+    number = reader.take_number()
+    side = reader.take_number()
+    return tilt(board, number, side)
+
+
 def answer_call(board, reader):
     """Takes one whole call from the reader: the numbers that it answers."""
     call = reader.take_number()
@@ -235,6 +301,12 @@ def answer_call(board, reader):
         return answer_many(board, reader)
     if call == RUN:
         return answer_run(board, reader)
+    if call == BACK:
+        return answer_back(board, reader)
+    if call == TILT:
+        return answer_tilt(board, reader)
+    if call == STATE:
+        return state(board)
     raise ValueError(f"no such call: {call}")
 
 

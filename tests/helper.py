@@ -30,6 +30,18 @@ def run(entry, most):
     return [3, entry, most]
 
 
+def back(entry):
+    return [4, entry]
+
+
+def tilt(gate, side):
+    return [5, gate, side]
+
+
+def state():
+    return [6]
+
+
 def listed(calls):
     """One list out of a list of calls."""
     return [number for call in calls for number in call]
@@ -53,6 +65,11 @@ def ask(*calls):
 def exits(counts):
     """Sixteen numbers out of a dict of those that are not 0."""
     return [counts.get(number, 0) for number in range(16)]
+
+
+def counted(parts):
+    """Sixteen numbers out of what drops answered."""
+    return [sum(part == [number] for part in parts) for number in range(16)]
 
 
 class SlowBoard:
@@ -91,6 +108,41 @@ class SlowBoard:
             entry = self.levers[came]
             if entry == 4 or sum(counts) == most:
                 return [sum(counts)] + counts + [entry]
+
+
+    def back(self, entry):
+        """Lets marbles go on a board of its own till all is as it was; the board should be small."""
+        if any(gate[0] >= 2 for gate in self.gates):
+            return [-33]
+        trial = SlowBoard(self.gates, self.entries, self.levers)
+        gone = 0
+        doublings = -1
+        while doublings < 0 or trial.gates != self.gates:
+            doublings += 1
+            while gone < 2 ** doublings:
+                trial.drop(entry)
+                gone += 1
+        return [doublings]
+
+    def tilt(self, number, side):
+        before = self.gates[number][1]
+        self.gates[number][1] = side
+        return [before]
+
+    def state(self):
+        return [len(self.gates), sum(2 ** number for number, gate in enumerate(self.gates) if gate[1] == 1)]
+
+
+def chain(size):
+    """Tilting gates that each lead to the next one on both sides, the last one out of exits 0 and 1."""
+    gates = [[TILTS, 0, number + 1, number + 1] for number in range(size - 1)]
+    return gates + [[TILTS, 0, 64, 65]]
+
+
+def counter(size):
+    """Tilting gates of which each hands every other marble on to the next one."""
+    gates = [[TILTS, 0, 64, number + 1] for number in range(size - 1)]
+    return gates + [[TILTS, 0, 64, 65]]
 
 
 def some_board(source, kinds, size):

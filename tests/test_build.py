@@ -2,13 +2,7 @@
 
 import unittest
 
-from tests.helper import NONE, OUT, STAYS, TILTS, ask, build, drop, exits, many, run
-
-
-def chain(size):
-    """Gates that each lead to the next one on both sides, the last one out of exits 0 and 1."""
-    gates = [[TILTS, 0, number + 1, number + 1] for number in range(size - 1)]
-    return gates + [[TILTS, 0, 64, 65]]
+from tests.helper import NONE, OUT, STAYS, TILTS, ask, build, chain, drop, exits, many, run
 
 
 def with_gate(size, number, gate):

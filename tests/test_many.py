@@ -3,14 +3,10 @@
 import random
 import unittest
 
-from tests.helper import MOST_COUNT, STAYS, TILTS, SlowBoard, ask, build, drop, exits, many, some_board
+from tests.helper import (
+    MOST_COUNT, STAYS, TILTS, SlowBoard, ask, build, counted, drop, exits, many, some_board)
 
 PROBES = [drop(entry) for entry in (0, 1, 2, 3)] * 8
-
-
-def counted(parts):
-    """Sixteen numbers out of what drops answered."""
-    return [sum(part == [number] for part in parts) for number in range(16)]
 
 
 class ManyTest(unittest.TestCase):
